@@ -1,0 +1,1 @@
+"""Values: one row of bytes, one text, paths, patches, numbers, forms."""
