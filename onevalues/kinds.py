@@ -1,5 +1,7 @@
 """The kinds of values, by the byte with which a value begins."""
 
+NO = 0
+YES = 1
 NUMBER = 2
 BYTES = 3
 TEXT = 4

@@ -2,22 +2,19 @@
 
 from onevalues.faults import BYTES_BEHIND, Fault, TOO_DEEP, WRONG_KIND, WRONG_NAME, WRONG_NUMBER
 from onevalues.kinds import BYTES, IDENTITY, LAST_KIND, LIST, MOMENT, NUMBER, RECORD, TEXT
+from onevalues.limits import DEEPEST, IDENTITY_LENGTH, LONGEST_NAME, LONGEST_NUMBER, MOMENT_LENGTH
 from onevalues.reader import Reader
 from onevalues.utf8 import check_utf8
 
-DEEPEST = 64
-LONGEST_NUMBER = 4096
-LONGEST_NAME = 255
-MOMENT_LENGTH = 8
-IDENTITY_LENGTH = 32
 
-
-# A value within a row of bytes: from place on, before end. Its size is how many bytes (of bytes,
-# of a text) or how many members, else 0; its name is at 0, of length 0, if it is no record's member.
+# A value within a row of bytes: from place on, before end; inside is the place behind its kind and its
+# varying number. Its size is how many bytes (of bytes, of a text) or how many members, else 0; its name
+# is at 0, of length 0, if it is no record's member.
 class Part:
     def __init__(self, kind, place):
         self.kind = kind
         self.place = place
+        self.inside = place + 1
         self.end = place
         self.size = 0
         self.depth = 1
@@ -77,11 +74,12 @@ def begin_part(reader, level):
         raise Fault(TOO_DEEP, place)
     part = Part(kind, place)
     if kind == NUMBER:
-        pass_number(reader, place)
+        pass_number(reader, part)
     elif kind in (BYTES, TEXT):
-        part.size = pass_row(reader, kind)
+        pass_row(reader, part)
     elif kind in (LIST, RECORD):
         part.size = reader.read_varying()
+        part.inside = reader.place
     elif kind == MOMENT:
         reader.pass_bytes(MOMENT_LENGTH)
     elif kind == IDENTITY:
@@ -89,23 +87,22 @@ def begin_part(reader, level):
     return part
 
 
-def pass_number(reader, kind_place):
+def pass_number(reader, part):
     told = reader.read_varying()
     length = told // 2
     below_0 = told % 2 == 1
     if length > LONGEST_NUMBER or (length == 0 and below_0):
-        raise Fault(WRONG_NUMBER, kind_place)
-    reader.pass_bytes(length)
+        raise Fault(WRONG_NUMBER, part.place)
+    part.inside = reader.pass_bytes(length)
     if length > 0 and reader.row[reader.place - 1] == 0:
-        raise Fault(WRONG_NUMBER, kind_place)
+        raise Fault(WRONG_NUMBER, part.place)
 
 
-def pass_row(reader, kind):
-    length = reader.read_varying()
-    first = reader.pass_bytes(length)
-    if kind == TEXT:
-        check_utf8(reader.row, first, reader.place)
-    return length
+def pass_row(reader, part):
+    part.size = reader.read_varying()
+    part.inside = reader.pass_bytes(part.size)
+    if part.kind == TEXT:
+        check_utf8(reader.row, part.inside, reader.place)
 
 
 # Gives back the name's place. What is not UTF-8 is no text and so no name yet:
@@ -126,3 +123,7 @@ def read_name(reader, holder):
 
 def name_bytes(row, part):
     return row[part.name_place:part.name_place + part.name_length]
+
+
+def inner_bytes(row, part):
+    return row[part.inside:part.end]

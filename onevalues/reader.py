@@ -1,6 +1,6 @@
 """Reading a row of bytes from the front."""
 
-from onevalues.faults import ENDS_TOO_SOON, Fault, WRONG_VARYING
+from onevalues.faults import ENDS_TOO_SOON, Fault, WRONG_SIGN, WRONG_VARYING
 
 MOST_VARYING_BYTES = 5
 HIGHEST_VARYING = 4294967295
@@ -12,12 +12,22 @@ class Reader:
         self.row = row
         self.place = 0
 
-    def read_byte(self):
+    # The byte that is read next.
+    def see_byte(self):
         if self.place >= len(self.row):
             raise Fault(ENDS_TOO_SOON, len(self.row))
-        byte = self.row[self.place]
+        return self.row[self.place]
+
+    def read_byte(self):
+        byte = self.see_byte()
         self.place += 1
         return byte
+
+    # For texts, where one sign alone may stand.
+    def read_sign(self, sign):
+        if self.see_byte() != sign:
+            raise Fault(WRONG_SIGN, self.place)
+        self.place += 1
 
     # That there are too few is told before any of them is looked at, so they are passed at once.
     def pass_bytes(self, how_many):

@@ -6,15 +6,15 @@ LOWEST_FURTHER = 128
 HIGHEST_FURTHER = 191
 
 
-# How many bytes must follow a first byte from 128 on; 0 if no scalar value begins with it:
+# How many bytes a scalar value has whose first byte is 128 or more; 0 if none begins with it:
 # C0H and C1H could only say what one byte says, F5H and more only what is above 10FFFFH.
-def count_further(first):
+def scalar_length(first):
     if 194 <= first <= 223:
-        return 1
-    if 224 <= first <= 239:
         return 2
-    if 240 <= first <= 244:
+    if 224 <= first <= 239:
         return 3
+    if 240 <= first <= 244:
+        return 4
     return 0
 
 
@@ -36,25 +36,30 @@ def highest_second(first):
     return HIGHEST_FURTHER
 
 
-# The bytes looked at are those from start on, before end. The first with which no UTF-8 goes on
-# is the fault's place, so each byte is held against what may follow the bytes before it.
+# Gives back the place behind the scalar value that begins at place with a byte from 128 on. No byte
+# from end on is looked at: if the scalar value should go on there, the place given back is behind end.
+def pass_scalar(row, place, end):
+    first = row[place]
+    length = scalar_length(first)
+    if length == 0:
+        raise Fault(WRONG_UTF8, place)
+    lowest = lowest_second(first)
+    highest = highest_second(first)
+    for further in range(place + 1, min(place + length, end)):
+        if row[further] < lowest or row[further] > highest:
+            raise Fault(WRONG_UTF8, further)
+        lowest = LOWEST_FURTHER
+        highest = HIGHEST_FURTHER
+    return place + length
+
+
+# The bytes looked at are those from start on, before end.
 def check_utf8(row, start, end):
-    further = 0
-    lowest = LOWEST_FURTHER
-    highest = HIGHEST_FURTHER
-    for place in range(start, end):
-        byte = row[place]
-        if further > 0:
-            if byte < lowest or byte > highest:
-                raise Fault(WRONG_UTF8, place)
-            further -= 1
-            lowest = LOWEST_FURTHER
-            highest = HIGHEST_FURTHER
-        elif byte >= LOWEST_FURTHER:
-            further = count_further(byte)
-            if further == 0:
-                raise Fault(WRONG_UTF8, place)
-            lowest = lowest_second(byte)
-            highest = highest_second(byte)
-    if further > 0:
+    place = start
+    while place < end:
+        if row[place] < LOWEST_FURTHER:
+            place += 1
+        else:
+            place = pass_scalar(row, place, end)
+    if place > end:
         raise Fault(WRONG_UTF8, end)

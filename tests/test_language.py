@@ -99,6 +99,8 @@ class Language(unittest.TestCase):
                     source = node.module.split(".")[1]
                     defined = {name for name, row in bound_names(self.trees[PACKAGE / f"{source}.py"])}
                     self.assertLessEqual({alias.name for alias in node.names}, defined, file.name)
+                    used = {inner.id for inner in ast.walk(tree) if isinstance(inner, ast.Name)}
+                    self.assertLessEqual({alias.name for alias in node.names}, used, file.name)
                     drawn[file.stem].append(source)
         while drawn:
             free = [name for name in drawn if not set(drawn[name]) & set(drawn)]

@@ -3,12 +3,11 @@ import random
 import unittest
 
 import making
-from making import identity, moment, number, pair, record, some_bytes, some_list, text
+from making import made, spoilt
 from onevalues.values import about, judge, member
 
 UTF8_EDGES = [0x00, 0x7F, 0x80, 0x8F, 0x90, 0x9F, 0xA0, 0xBF, 0xC0, 0xC1, 0xC2, 0xDF, 0xE0, 0xE1, 0xEC, 0xED, 0xEE,
               0xEF, 0xF0, 0xF1, 0xF3, 0xF4, 0xF5, 0xFF]
-WORDS = ["", "a", "b", "ab", "\0", "\x7f", "\u00e4", "\u20ac", "\ud7ff", "\ue000", "\U00010000", "\U0010ffff"]
 
 
 def depth(value):
@@ -21,36 +20,6 @@ def size(value):
     if value[0] == 4:
         return len(value[1].encode())
     return len(value[1]) if value[0] in (3, 5, 6) else 0
-
-
-def made(source, levels):
-    """Some value's bytes, at most so many deep."""
-    kind = source.randrange(11 if levels > 1 else 7)
-    if kind < 2:
-        return [kind]
-    if kind == 2:
-        return number(source.choice([-1, 1]) * source.getrandbits(source.choice([0, 1, 8, 16, 70])))
-    if kind == 3:
-        return some_bytes(source.randbytes(source.randrange(5)))
-    if kind == 4:
-        return text("".join(source.choices(WORDS, k=source.randrange(4))))
-    if kind == 5:
-        return moment(source.randrange(-2 ** 63, 2 ** 63))
-    if kind == 6:
-        return identity(source.randbytes(32))
-    members = [made(source, levels - 1) for turn in range(source.randrange(5))]
-    if kind < 9:
-        return some_list(*members)
-    names = sorted(source.sample(WORDS[1:], len(members)), key=str.encode)
-    return record(*[pair(name, member) for name, member in zip(names, members)])
-
-
-def spoilt(source, row):
-    """The row with one byte changed, put in or taken out."""
-    place = source.randrange(len(row))
-    byte = source.choice([0, 1, 2, 3, 4, 5, 6, 7, 8, 9, 127, 128, 192, 237, 255, source.randrange(256)])
-    return source.choice([row[:place] + [byte] + row[place + 1:], row[:place] + [byte] + row[place:],
-                          row[:place] + row[place + 1:]])
 
 
 class AgainstSecondJudge(unittest.TestCase):
