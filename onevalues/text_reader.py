@@ -25,7 +25,7 @@ def read_text(row):
     reader = Reader(row)
     begun = []
     whole = begin_value(reader, begun)
-    while whole is None or begun:
+    while begun:
         if whole is None:
             whole = begin_value(reader, begun)
         else:

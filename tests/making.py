@@ -98,6 +98,30 @@ def within(levels, value):
     return [5, 1] * levels + value
 
 
+def four_letters(how_many):
+    """So many names, rising."""
+    return ["".join(chr(97 + i // 26 ** k % 26) for k in (3, 2, 1, 0)) for i in range(how_many)]
+
+
+def long_record():
+    """The bytes of a record with 10,922 of those names, each with no: as many as 65,536 bytes hold."""
+    return [6] + vary(10922) + [byte for name in four_letters(10922) for byte in [4, *name.encode(), 0]]
+
+
+def path(*steps):
+    """A path's bytes: numbers, texts, or bytes that are some other value's."""
+    made_of = {int: number, str: text, list: list}
+    return some_list(*[made_of[type(step)](step) for step in steps])
+
+
+ATOMS = [NO, YES, number(0), number(-300), some_bytes([0, 5, 1]), text("ab"), moment(0), identity(range(32))]
+
+# Values' bytes that are no path's: no list, or a list with a member that is no step, also behind such as are.
+NO_PATHS = [NO, YES, number(0), some_bytes([5, 0]), text(""), text("a"), record(), record(pair("a", number(0))),
+            moment(0), identity([0] * 32), path(NO), path(YES), path(0, NO), path("a", YES, "a"), path(0, 0, [3, 0]),
+            path(path()), path(0, path(0)), path(record()), path(moment(0), 0), path(identity([0] * 32)),
+            path(9, "nowhere", 0, -1, NO), path(*[0] * 200, some_bytes([]))]
+
 # No value's bytes, one for each fault, and some more.
 NO_VALUES = [[], [9], [5, 2, 0], [3, 128, 0], [2, 1], [4, 1, 255], [6, 1, 0, 0], [6, 2, 1, 98, 0, 1, 97, 0],
              within(64, NO), [0, 0], [255] * 40, [8] * 32]
@@ -267,6 +291,24 @@ class SecondJudge:
             value, at = self.value(name_at + length, level + 1)
             pairs.append((name, value))
         return (6, tuple(pairs)), at
+
+
+def row_of(value):
+    """The bytes of a value that the second judge gave back, or of one made of such."""
+    kind = value[0]
+    if kind < 2:
+        return [kind]
+    if kind == 5:
+        return some_list(*[row_of(member) for member in value[1]])
+    if kind == 6:
+        return record(*[pair(name, row_of(member)) for name, member in value[1]])
+    return {2: number, 3: some_bytes, 4: text, 7: moment, 8: identity}[kind](value[1])
+
+
+def depth(value):
+    kind = value[0]
+    members = value[1] if kind == 5 else [pair[1] for pair in value[1]] if kind == 6 else ()
+    return 1 + max([depth(one) for one in members], default=0)
 
 
 def quoted(words):

@@ -1,7 +1,7 @@
 import unittest
 
 import making
-from making import NO, pair, some_bytes, some_list, some_text, vary
+from making import NO, long_record, pair, some_bytes, some_list, some_text, vary
 from onevalues.values import about, judge, member
 
 LONGEST = 65536
@@ -12,14 +12,6 @@ SAME_BYTES_FAULTS = {0: [8, 1], 1: [8, 1], 2: [8, 3], 3: [8, 5], 4: [8, 6], 5: [
 
 def long_list():
     return [5] + vary(BEHIND_COUNT) + [1] * BEHIND_COUNT
-
-
-def long_record():
-    """10,922 members of six bytes each."""
-    row = [6] + vary(10922)
-    for i in range(10922):
-        row += [4, 97 + i // 17576, 97 + i // 676 % 26, 97 + i // 26 % 26, 97 + i % 26, 0]
-    return row
 
 
 class Long(making.CallCase):

@@ -1,25 +1,11 @@
 import unittest
 
 import making
-from making import in_tens, number, some_bytes, some_text, vary, within
+from making import four_letters, in_tens, long_record, number, some_bytes, some_text, vary, within
 from onevalues.values import order, read, text
 
 LONGEST = 65536
 GREATEST = 256 ** 4096 - 1
-
-
-def names(how_many):
-    """Names of four small letters, rising."""
-    return ["".join(chr(97 + i // 26 ** k % 26) for k in (3, 2, 1, 0)) for i in range(how_many)]
-
-
-def long_record(value):
-    """A record's bytes with as many members as 65,536 bytes hold, and their names."""
-    many = (LONGEST - 3) // (5 + len(value))
-    row = [6] + vary(many)
-    for name in names(many):
-        row += [4] + list(name.encode()) + value
-    return row
 
 
 class LongCase(making.CallCase):
@@ -42,8 +28,8 @@ class LongValues(LongCase):
         self.there_and_back(row, "[" + "yes, " * (many - 1) + "yes]")
 
     def test_a_record(self):
-        row = long_record([0])
-        self.there_and_back(row, "{" + ", ".join(name + ": no" for name in names(10922)) + "}")
+        row = long_record()
+        self.there_and_back(row, "{" + ", ".join(name + ": no" for name in four_letters(10922)) + "}")
 
     def test_bytes(self):
         row = some_bytes([i * 7 % 256 for i in range(LONGEST - 4)])
@@ -79,9 +65,9 @@ class LongTexts(LongCase):
         self.check([0, 5] + vary(16383) + ([7] + [0] * 8) * 16383, read, list(told.encode()))
 
     def test_a_record(self):
-        told = "{" + ", ".join(name + ": 0" for name in names(7281)) + "}"
+        told = "{" + ", ".join(name + ": 0" for name in four_letters(7281)) + "}"
         self.assertLessEqual(len(told), LONGEST)
-        self.check([0, 6] + vary(7281) + sum(([4] + list(name.encode()) + [2, 0] for name in names(7281)), []),
+        self.check([0, 6] + vary(7281) + sum(([4] + list(name.encode()) + [2, 0] for name in four_letters(7281)), []),
                    read, list(told.encode()))
         self.fault(6, len(told) + 1, told[:-1] + ", aaaa: 0}")
         self.fault(1, len(told) + 5, told[:-1] + ", aaaa")
@@ -139,7 +125,7 @@ class LongOrder(making.CallCase):
         self.both_ways(row, [5, 1, 1])
 
     def test_records(self):
-        row = long_record([0])
+        row = long_record()
         self.both_ways(row, row[:-1] + [1])
         self.both_ways(row, row[:-2] + [row[-2] + 1, 0])
         self.both_ways([6] + vary(10921) + row[3:-6], row)

@@ -3,17 +3,11 @@ import random
 import unittest
 
 import making
-from making import made, spoilt
+from making import depth, made, spoilt
 from onevalues.values import about, judge, member
 
 UTF8_EDGES = [0x00, 0x7F, 0x80, 0x8F, 0x90, 0x9F, 0xA0, 0xBF, 0xC0, 0xC1, 0xC2, 0xDF, 0xE0, 0xE1, 0xEC, 0xED, 0xEE,
               0xEF, 0xF0, 0xF1, 0xF3, 0xF4, 0xF5, 0xFF]
-
-
-def depth(value):
-    kind = value[0]
-    members = value[1] if kind == 5 else [pair[1] for pair in value[1]] if kind == 6 else ()
-    return 1 + max([depth(one) for one in members], default=0)
 
 
 def size(value):
