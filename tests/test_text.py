@@ -3,7 +3,7 @@ import unittest
 
 import making
 from making import (NO, NO_VALUES, YES, identity, in_tens, made, moment, number, pair, record, some_bytes, some_list,
-                    text, within)
+                    text, vary, within)
 from onevalues.values import text as text_call
 from onevalues.values import read
 
@@ -140,6 +140,31 @@ class ListsAndRecords(TextCase):
         self.told("[" * 63 + "{}" + "]" * 63, within(63, record()))
         self.told("{a: " * 63 + "-1" + "}" * 63, [6, 1, 1, 97] * 63 + number(-1))
         self.told("{a: [" * 31 + '"A"' + "]}" * 31, [6, 1, 1, 97, 5, 1] * 31 + text("A"))
+
+
+class LongerVaryingNumbers(TextCase):
+    """Where how many there are takes another byte."""
+
+    def test_each_kind_that_tells_how_many(self):
+        for many in (126, 127, 128, 129, 255, 256, 257, 16383, 16384):
+            self.told('x"' + "ab" * many + '"', some_bytes([171] * many))
+            self.told('"' + "a" * many + '"', text("a" * many))
+            self.told("[" + ", ".join(["no"] * many) + "]", [5] + vary(many) + [0] * many)
+
+    def test_names(self):
+        for length in (126, 127, 128, 129, 254, 255):
+            self.told("{" + "a" * length + ": no}", record(pair("a" * length, NO)))
+            self.told('{"' + "A" * length + '": no}', record(pair("A" * length, NO)))
+
+    def test_records(self):
+        for many in (127, 128, 129):
+            told = making.four_letters(many)
+            self.told("{" + ", ".join(name + ": no" for name in told) + "}", record(*[pair(name, NO) for name in told]))
+
+    def test_numbers(self):
+        for length in (62, 63, 64, 65, 127, 128, 129):
+            self.told(str(256 ** length - 1), number(256 ** length - 1))
+            self.told(str(-256 ** length), number(-256 ** length))
 
 
 class NoValue(making.CallCase):
