@@ -1,73 +1,103 @@
-"""Changed values' bytes. A list or record tells how many members it has, not how many bytes:
-so only what is put or taken changes, and the count of the one that holds it."""
+"""Changes of a value's tree: each gives back the top of what came, or refuses, with the tree as far as it got."""
 
 from onevalues.kinds import LIST, RECORD
 from onevalues.limits import DEEPEST, LONGEST_NAME, LONGEST_VALUE
-from onevalues.parts import name_bytes
-from onevalues.paths import find_member, follow, is_number
+from onevalues.paths import count_before, find_member, follow, is_number
 from onevalues.refusals import LeadsNowhere, NoValue
 from onevalues.rows import vary_row
+from onevalues.trees import member_length
 
 
-# The value x is told by its bytes and by how deep it is.
-def put_at(row, whole, steps, x, x_depth):
-    trail = follow(row, whole, steps)
-    found = trail[-1]
+# The value x is told by its tree and by how deep it is.
+def put_at(top, steps, x, x_depth):
+    trail = follow(top, steps)
     leading = len(trail) - 1
     if leading == len(steps):
-        changed = row[:found.place] + x + row[found.end:]
-    elif leading == len(steps) - 1 and may_have(found, steps[-1]):
-        changed = put_new(row, found, steps[-1], x)
-    else:
+        check_depth(steps, x_depth)
+        return replace_last(trail, steps, x)
+    if leading < len(steps) - 1 or not may_have(trail[-1], steps[-1]):
         raise LeadsNowhere(leading)
-    # So many lists and records are round x, one for each step.
-    if len(steps) + x_depth > DEEPEST or len(changed) > LONGEST_VALUE:
-        raise NoValue()
-    return changed
+    check_depth(steps, x_depth)
+    return put_new(trail, steps[-1], x)
 
 
 # Whether the step, which leads to no member of the holder, may lead to a new one.
 def may_have(holder, step):
     if is_number(step):
-        return holder.kind == LIST and step == holder.size
+        return holder.kind == LIST and step == len(holder.members)
     return holder.kind == RECORD and 1 <= len(step) <= LONGEST_NAME
 
 
-def put_new(row, holder, step, x):
+def put_new(holders, step, x):
     if is_number(step):
-        return insert_member(row, holder, step, x)
-    return insert_member(row, holder, count_before(row, holder, step), vary_row(len(step)) + step + x)
+        return insert_member(holders, step, x)
+    x.name = step
+    return insert_member(holders, count_before(holders[-1], step), x)
 
 
-# How many of a record's names come before this one.
-def count_before(row, holder, name):
-    return len([part for part in holder.members if name_bytes(row, part) < name])
-
-
-def take_at(row, whole, steps):
-    trail = follow(row, whole, steps)
+def take_at(top, steps):
+    trail = follow(top, steps)
     leading = len(trail) - 1
     if not steps or leading < len(steps):
         raise LeadsNowhere(leading)
-    holder = trail[-2]
-    return without_member(row, holder, find_member(row, holder, steps[-1]))
+    return remove_member(trail[:-1], find_member(trail[-2], steps[-1]))
 
 
-# What is inserted is a member's bytes, in a record with its name: then as many members stand before it.
-def insert_member(row, holder, before, inserted):
-    place = member_start(holder, before)
-    return with_count(row, holder, holder.size + 1, place) + inserted + row[place:]
+# The last step may lead to a member or behind all: it is the others that must lead.
+def add_at(top, steps, x, x_depth):
+    trail = follow(top, steps)
+    holders = trail[:len(steps)]
+    if not steps or len(holders) < len(steps) or not may_add(holders[-1], steps[-1]):
+        raise LeadsNowhere(len(trail) - 1)
+    check_depth(steps, x_depth)
+    return insert_member(holders, steps[-1], x)
 
 
-def without_member(row, holder, i):
-    return with_count(row, holder, holder.size - 1, member_start(holder, i)) + row[holder.members[i].end:]
+def may_add(holder, step):
+    return holder.kind == LIST and is_number(step) and 0 <= step <= len(holder.members)
 
 
-# Where the bytes of member i begin, in a record with its name; behind all if there are no more than i.
-def member_start(holder, i):
-    return holder.inside if i == 0 else holder.members[i - 1].end
+# So many lists and records are round x, one for each step.
+def check_depth(steps, x_depth):
+    if len(steps) + x_depth > DEEPEST:
+        raise NoValue()
 
 
-# The bytes before end, with another count of the holder's members.
-def with_count(row, holder, count, end):
-    return row[:holder.place + 1] + vary_row(count) + row[holder.inside:end]
+# In the place of the last of the trail, to which all the steps lead, stands x.
+def replace_last(trail, steps, x):
+    if not steps:
+        return x
+    found = trail[-1]
+    holders = trail[:-1]
+    x.name = found.name
+    holders[-1].members[find_member(holders[-1], steps[-1])] = x
+    return lengthen(holders, x.length - found.length)
+
+
+# Each holder is within the one before it; x becomes member i of the last.
+def insert_member(holders, i, x):
+    holder = holders[-1]
+    before = count_length(holder)
+    holder.members.insert(i, x)
+    return lengthen(holders, member_length(x) + count_length(holder) - before)
+
+
+def remove_member(holders, i):
+    holder = holders[-1]
+    before = count_length(holder)
+    gone = holder.members.pop(i)
+    return lengthen(holders, count_length(holder) - before - member_length(gone))
+
+
+# How many bytes tell how many members there are.
+def count_length(holder):
+    return len(vary_row(len(holder.members)))
+
+
+# What changes a member's length changes that of all that's round it. Gives back the uppermost.
+def lengthen(holders, grown):
+    for holder in holders:
+        holder.length += grown
+    if holders[0].length > LONGEST_VALUE:
+        raise NoValue()
+    return holders[0]

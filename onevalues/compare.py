@@ -2,7 +2,7 @@
 
 from onevalues.amounts import moment_of, number_of
 from onevalues.kinds import LIST, MOMENT, NUMBER, RECORD
-from onevalues.parts import inner_bytes, name_bytes
+from onevalues.parts import inner_bytes
 
 SAME = 0
 BEFORE = 1
@@ -37,7 +37,7 @@ def order_values(first_row, first_whole, second_row, second_whole):
 # All but the members: the names (none and none, if these are no records' members), then the kinds,
 # then what an atom tells.
 def order_beginnings(first_row, second_row, pair):
-    told = order_two(name_bytes(first_row, pair.first), name_bytes(second_row, pair.second))
+    told = order_two(pair.first.name, pair.second.name)
     if told == SAME:
         told = order_two(pair.first.kind, pair.second.kind)
     if told == SAME:

@@ -9,7 +9,7 @@ from onevalues.utf8 import check_utf8
 
 # A value within a row of bytes: from place on, before end; inside is the place behind its kind and its
 # varying number. Its size is how many bytes (of bytes, of a text) or how many members, else 0; its name
-# is at 0, of length 0, if it is no record's member.
+# is empty, at 0, if it is no record's member.
 class Part:
     def __init__(self, kind, place):
         self.kind = kind
@@ -19,7 +19,7 @@ class Part:
         self.size = 0
         self.depth = 1
         self.name_place = 0
-        self.name_length = 0
+        self.name = []
         self.members = []
 
 
@@ -53,13 +53,13 @@ def deepen(holder, part):
 
 def begin_member(reader, holder, level):
     name_place = 0
-    name_length = 0
+    name = []
     if holder.kind == RECORD:
         name_place = read_name(reader, holder)
-        name_length = reader.place - name_place
+        name = reader.row[name_place:reader.place]
     part = begin_part(reader, level)
     part.name_place = name_place
-    part.name_length = name_length
+    part.name = name
     holder.members.append(part)
     return part
 
@@ -114,15 +114,13 @@ def read_name(reader, holder):
         raise Fault(WRONG_NAME, told_at)
     first = reader.pass_bytes(length)
     check_utf8(reader.row, first, reader.place)
-    if holder.members:
-        before = holder.members[-1]
-        if reader.row[first:reader.place] <= name_bytes(reader.row, before):
-            raise Fault(WRONG_NAME, told_at)
+    if holder.members and reader.row[first:reader.place] <= holder.members[-1].name:
+        raise Fault(WRONG_NAME, told_at)
     return first
 
 
-def name_bytes(row, part):
-    return row[part.name_place:part.name_place + part.name_length]
+def all_bytes(row, part):
+    return row[part.place:part.end]
 
 
 def inner_bytes(row, part):

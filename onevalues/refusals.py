@@ -20,3 +20,21 @@ class LeadsNowhere(Refusal):
 class NoValue(Refusal):
     def __init__(self):
         Refusal.__init__(self, [-9])
+
+
+# The patch's member of this number is no step; 0, if it is no list.
+class NoStep(Refusal):
+    def __init__(self, number):
+        Refusal.__init__(self, [-5, number])
+
+
+# The patch's step of this number leads nowhere.
+class StepLeadsNowhere(Refusal):
+    def __init__(self, number):
+        Refusal.__init__(self, [-4, number])
+
+
+# What would come of the patch's step of this number would be no value.
+class StepMakesNoValue(Refusal):
+    def __init__(self, number):
+        Refusal.__init__(self, [-9, number])

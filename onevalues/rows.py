@@ -40,6 +40,11 @@ def moment_row(number):
     return row
 
 
+# What stands before a member's value: its name in a record; nothing in a list, where it has none.
+def name_row(name):
+    return vary_row(len(name)) + name if name else []
+
+
 # Of bytes, texts, lists and records: how many (bytes or members) and what stands behind that.
 def counted_row(kind, how_many, inner):
     return [kind] + vary_row(how_many) + inner

@@ -2,7 +2,7 @@
 
 from onevalues.amounts import moment_of, number_of, tens_of
 from onevalues.kinds import BYTES, LIST, MOMENT, NO, NUMBER, RECORD, TEXT, YES
-from onevalues.parts import inner_bytes, name_bytes
+from onevalues.parts import inner_bytes
 from onevalues.signs import BACKSLASH, FIGURES, ID_SIGN, LINE_FEED, LIST_CLOSE, LIST_OPEN, MOMENT_SIGN, QUOTE
 from onevalues.signs import RECORD_CLOSE, RECORD_OPEN, SMALL_N, is_numbered, signs_of, stands_as_it_is
 
@@ -25,7 +25,7 @@ def make_text(row, whole):
             if telling.told > 0:
                 made.extend(signs_of(", "))
             if telling.part.kind == RECORD:
-                made.extend(name_text(name_bytes(row, member)))
+                made.extend(name_text(member.name))
                 made.extend(signs_of(": "))
             telling.told += 1
             made.extend(open_part(row, member))

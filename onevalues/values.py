@@ -1,13 +1,16 @@
 """The calls: each takes rows of bytes and whole numbers, and answers one list of whole numbers."""
 
-from onevalues.changes import put_at, take_at
+from onevalues.changes import take_at
 from onevalues.compare import order_values
+from onevalues.differences import differ_row
 from onevalues.faults import Fault
 from onevalues.parts import read_whole
+from onevalues.patches import ADD, PUT, Step, do_patch, do_step, read_patch
 from onevalues.paths import lead, read_path
 from onevalues.refusals import Refusal
 from onevalues.text_maker import make_text
 from onevalues.text_reader import read_text
+from onevalues.trees import make_tree, tree_row
 
 
 def judge(v):
@@ -34,7 +37,7 @@ def member(i, v):
     if i < 0 or i >= len(whole.members):
         return [-4]
     found = whole.members[i]
-    return [0, found.name_place, found.name_length, found.place, found.end - found.place]
+    return [0, found.name_place, len(found.name), found.place, found.end - found.place]
 
 
 def order(a, b):
@@ -64,7 +67,7 @@ def read(t):
 def get(v, p):
     try:
         whole = read_whole(v)
-        found = lead(v, whole, read_path(p, read_whole(p)))
+        found = lead(whole, read_path(p, read_whole(p)))
     except Fault:
         return [-6]
     except Refusal as refusal:
@@ -72,23 +75,55 @@ def get(v, p):
     return [0, found.place, found.end - found.place]
 
 
-# All that is handed in is judged before the path is looked at.
 def put(v, p, x):
+    return change_with(PUT, v, p, x)
+
+
+def take(v, p):
     try:
         whole = read_whole(v)
-        path_whole = read_whole(p)
-        x_whole = read_whole(x)
-        return [0] + put_at(v, whole, read_path(p, path_whole), x, x_whole.depth)
+        steps = read_path(p, read_whole(p))
+        return [0] + tree_row(take_at(make_tree(v, whole), steps))
     except Fault:
         return [-6]
     except Refusal as refusal:
         return refusal.answer
 
 
-def take(v, p):
+def add(v, p, x):
+    return change_with(ADD, v, p, x)
+
+
+# All that is handed in is judged before the path is looked at.
+def change_with(action, v, p, x):
     try:
         whole = read_whole(v)
-        return [0] + take_at(v, whole, read_path(p, read_whole(p)))
+        path_whole = read_whole(p)
+        x_whole = read_whole(x)
+        step = Step(action, read_path(p, path_whole), x_whole)
+        return [0] + tree_row(do_step(make_tree(v, whole), x, step))
+    except Fault:
+        return [-6]
+    except Refusal as refusal:
+        return refusal.answer
+
+
+def patch(v, p):
+    try:
+        whole = read_whole(v)
+        steps = read_patch(p, read_whole(p))
+        return [0] + tree_row(do_patch(make_tree(v, whole), p, steps))
+    except Fault:
+        return [-6]
+    except Refusal as refusal:
+        return refusal.answer
+
+
+def differ(a, b):
+    try:
+        first = read_whole(a)
+        second = read_whole(b)
+        return [0] + differ_row(a, first, b, second)
     except Fault:
         return [-6]
     except Refusal as refusal:

@@ -1,6 +1,7 @@
 """What the tests share: making values' bytes, a second judge, a second reader, and a call that is watched."""
 
 import contextlib
+import functools
 import io
 import sys
 import unittest
@@ -114,6 +115,19 @@ def path(*steps):
     return some_list(*[made_of[type(step)](step) for step in steps])
 
 
+def put_step(steps, x):
+    """A patch's step."""
+    return record(pair("at", path(*steps)), pair("put", x))
+
+
+def take_step(*steps):
+    return record(pair("at", path(*steps)), pair("take", YES))
+
+
+def add_step(steps, x):
+    return record(pair("add", x), pair("at", path(*steps)))
+
+
 ATOMS = [NO, YES, number(0), number(-300), some_bytes([0, 5, 1]), text("ab"), moment(0), identity(range(32))]
 
 # Values' bytes that are no path's: no list, or a list with a member that is no step, also behind such as are.
@@ -179,6 +193,7 @@ class Wrong(Exception):
     pass
 
 
+@functools.cache
 def begun_scalars():
     """What some scalar value's UTF-8 begins with and goes beyond."""
     rows = [chr(scalar).encode() for scalar in range(0x110000) if not 0xD800 <= scalar <= 0xDFFF]
@@ -489,3 +504,25 @@ class SecondReader:
         if not (1 <= len(name) <= 255 and before < name):
             raise Wrong(6, start)
         return name, at
+
+
+@functools.cache
+def second_reader():
+    return SecondReader()
+
+
+@functools.cache
+def second_judge():
+    return SecondJudge()
+
+
+def row(words):
+    """The bytes of the value whose text this is, by the second reader."""
+    told = second_reader().told(words.encode())
+    if told[0] != 0:
+        raise ValueError(f"no value's text: {words}: {told}")
+    return told[1:]
+
+
+def rows(*texts):
+    return [row(words) for words in texts]

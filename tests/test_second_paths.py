@@ -3,83 +3,14 @@ import unittest
 
 import making
 from making import depth, made, path, row_of
-from onevalues.values import get, put, take
-
-
-class Nowhere(Exception):
-    pass
-
-
-def inner(value):
-    """A list's members by their numbers, a record's by their names, an atom's none."""
-    if value[0] == 5:
-        return dict(enumerate(value[1]))
-    return dict(value[1]) if value[0] == 6 else {}
-
-
-def rebuilt(value, members):
-    if value[0] == 5:
-        return (5, tuple(members[i] for i in sorted(members)))
-    return (6, tuple(sorted(members.items(), key=lambda item: item[0].encode())))
-
-
-def leading(value, steps):
-    """How many steps lead, and to what."""
-    for many, step in enumerate(steps):
-        if step not in inner(value):
-            return many, value
-        value = inner(value)[step]
-    return len(steps), value
-
-
-def second_put(value, steps, x):
-    if not steps:
-        return x
-    members = inner(value)
-    step = steps[0]
-    if len(steps) > 1 or step in members:
-        if step not in members:
-            raise Nowhere()
-        members[step] = second_put(members[step], steps[1:], x)
-    elif (value[0] == 5 and step == len(members)) or (value[0] == 6 and isinstance(step, str)
-                                                      and 1 <= len(step.encode()) <= 255):
-        members[step] = x
-    else:
-        raise Nowhere()
-    return rebuilt(value, members)
-
-
-def second_take(value, steps):
-    if not steps or steps[0] not in inner(value):
-        raise Nowhere()
-    members = inner(value)
-    if len(steps) == 1:
-        members.pop(steps[0])
-        if value[0] == 5:
-            members = dict(enumerate(members[i] for i in sorted(members)))
-    else:
-        members[steps[0]] = second_take(members[steps[0]], steps[1:])
-    return rebuilt(value, members)
-
-
-def some_steps(source, value):
-    """A path that leads somewhere, or nearly so."""
-    steps = []
-    while inner(value) and source.random() < 0.8:
-        steps.append(source.choice(sorted(inner(value))))
-        value = inner(value)[steps[-1]]
-    if source.random() < 0.5:
-        steps.append(source.choice([-1, 0, 1, len(inner(value)), len(inner(value)) + 1, 2 ** 40, *making.WORDS,
-                                    "x" * 256]))
-    if source.random() < 0.1:
-        steps.append(source.choice([0, "a"]))
-    return steps
+from onevalues.values import add, get, put, take
+from second import Nowhere, leading, second_add, second_put, second_take, some_steps
 
 
 class AgainstSecondPaths(unittest.TestCase):
     @classmethod
     def setUpClass(cls):
-        cls.second = making.SecondJudge()
+        cls.second = making.second_judge()
 
     def cases(self, seed, how_many):
         source = random.Random(seed)
@@ -131,6 +62,29 @@ class AgainstSecondPaths(unittest.TestCase):
     def test_take(self):
         for row, value, steps, x in self.cases(24, 4000):
             self.assertEqual(take(row, path(*steps)), self.told(second_take, value, steps))
+
+    def test_add(self):
+        firsts = set()
+        for row, value, steps, x in self.cases(26, 6000):
+            told = add(row, path(*steps), x)
+            self.assertEqual(told, self.told(second_add, value, steps, self.second.judge(x)))
+            firsts.add(told[0])
+            if told[0] == 0:
+                found = get(told[1:], path(*steps))
+                self.assertEqual(told[1:][found[1]:found[1] + found[2]], x)
+                self.assertEqual(take(told[1:], path(*steps)), [0] + row)
+        self.assertEqual(firsts, {0, -4})
+
+    def test_add_deep_within(self):
+        source = random.Random(27)
+        firsts = set()
+        for row, value, steps, x in self.cases(28, 2000):
+            levels = 64 - depth(value) - source.randrange(3)
+            told = add([5, 1] * levels + row, path(*[0] * levels, *steps), x)
+            whole = self.second.judge([5, 1] * levels + row)
+            self.assertEqual(told, self.told(second_add, whole, [0] * levels + steps, self.second.judge(x)))
+            firsts.add(told[0])
+        self.assertEqual(firsts, {0, -4, -9})
 
     def test_what_is_put_anew_and_taken_is_as_it_was(self):
         for row, value, steps, x in self.cases(25, 4000):
