@@ -1,5 +1,6 @@
 """The numbers that the bytes of numbers and moments tell, and their figures in tens."""
 
+from onevalues.limits import LONGEST_NUMBER
 from onevalues.parts import inner_bytes
 
 PIECE_FIGURES = 18
@@ -18,6 +19,10 @@ def number_of(row, part):
     amount = amount_of(inner_bytes(row, part))
     told = row[part.place + 1]
     return -amount if told % 2 == 1 else amount
+
+
+def is_in_range(number):
+    return number.bit_length() <= 8 * LONGEST_NUMBER
 
 
 def moment_of(row, part):

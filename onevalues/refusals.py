@@ -38,3 +38,25 @@ class StepLeadsNowhere(Refusal):
 class StepMakesNoValue(Refusal):
     def __init__(self, number):
         Refusal.__init__(self, [-9, number])
+
+
+class NoNumber(Refusal):
+    def __init__(self):
+        Refusal.__init__(self, [-5])
+
+
+# There is no such quotient, power or root.
+class NoResult(Refusal):
+    def __init__(self):
+        Refusal.__init__(self, [-4])
+
+
+class OutOfRange(Refusal):
+    def __init__(self):
+        Refusal.__init__(self, [-9])
+
+
+# The first fault of a book of forms is at this place.
+class WrongBook(Refusal):
+    def __init__(self, place):
+        Refusal.__init__(self, [-5, place])

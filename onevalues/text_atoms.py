@@ -1,8 +1,9 @@
 """Reading the texts of atoms, each giving back the atom's bytes."""
 
+from onevalues.amounts import is_in_range
 from onevalues.faults import Fault, OUT_OF_RANGE, WRONG_SIGN
 from onevalues.kinds import BYTES, IDENTITY, NO, TEXT, YES
-from onevalues.limits import IDENTITY_LENGTH, LONGEST_NUMBER
+from onevalues.limits import IDENTITY_LENGTH
 from onevalues.rows import counted_row, moment_row, number_row
 from onevalues.signs import BACKSLASH, ID_SIGN, LINE_FEED, MINUS, MOMENT_SIGN, NOUGHT, QUOTE, RECORD_CLOSE
 from onevalues.signs import SMALL_N, SMALL_U, SMALL_X, SMALL_Y, figure_of, is_numbered, is_ten, signs_of
@@ -46,7 +47,7 @@ def read_word(reader, words):
 def read_number(reader):
     start = reader.place
     number = read_tens(reader, start)
-    if abs(number).bit_length() > 8 * LONGEST_NUMBER:
+    if not is_in_range(number):
         raise Fault(OUT_OF_RANGE, start)
     return number_row(number)
 

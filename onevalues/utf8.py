@@ -53,6 +53,11 @@ def pass_scalar(row, place, end):
     return place + length
 
 
+# How many scalar values there are in what is UTF-8: each has one byte that is no further one.
+def count_scalars(row):
+    return len([byte for byte in row if byte < LOWEST_FURTHER or byte > HIGHEST_FURTHER])
+
+
 # The bytes looked at are those from start on, before end.
 def check_utf8(row, start, end):
     place = start

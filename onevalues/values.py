@@ -1,13 +1,17 @@
 """The calls: each takes rows of bytes and whole numbers, and answers one list of whole numbers."""
 
+from onevalues.books import read_book
 from onevalues.changes import take_at
 from onevalues.compare import order_values
 from onevalues.differences import differ_row
 from onevalues.faults import Fault
+from onevalues.fitting import FITS, hold_against
 from onevalues.parts import read_whole
 from onevalues.patches import ADD, PUT, Step, do_patch, do_step, read_patch
 from onevalues.paths import lead, read_path
-from onevalues.refusals import Refusal
+from onevalues.reckoning import is_operation, need_number, reckon
+from onevalues.refusals import Refusal, WrongBook
+from onevalues.rows import number_row
 from onevalues.text_maker import make_text
 from onevalues.text_reader import read_text
 from onevalues.trees import make_tree, tree_row
@@ -128,3 +132,38 @@ def differ(a, b):
         return [-6]
     except Refusal as refusal:
         return refusal.answer
+
+
+# The operation is looked at before what it is done with.
+def number(op, a, b):
+    if not is_operation(op):
+        return [-1]
+    try:
+        first = read_whole(a)
+        second = read_whole(b)
+        return [0] + number_row(reckon(op, need_number(a, first), need_number(b, second)))
+    except Fault:
+        return [-6]
+    except Refusal as refusal:
+        return refusal.answer
+
+
+def form(f):
+    try:
+        read_book(f, read_whole(f))
+    except Fault:
+        return [-6]
+    except Refusal as refusal:
+        return refusal.answer
+    return [0]
+
+
+def fits(v, f):
+    try:
+        whole = read_whole(v)
+        told = hold_against(v, whole, read_book(f, read_whole(f)))
+    except Fault:
+        return [-6]
+    except WrongBook:
+        return [-5]
+    return [1] if told == FITS else [0, told]

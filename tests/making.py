@@ -526,3 +526,18 @@ def row(words):
 
 def rows(*texts):
     return [row(words) for words in texts]
+
+
+# A value that stands nowhere else, for finding places.
+STRANGE = "@7161677110969590627"
+
+
+def place_of(marked):
+    """The place in the bytes of the value before which a mark stands in the text: where, if another stood in its
+    place that stands nowhere else, that one would be."""
+    before, behind = marked.split("^")
+    reader = second_reader()
+    reader.row = (before + behind).encode()
+    end = reader.value(len(before.encode()), 1)[1]
+    told = row(before + STRANGE + reader.row[end:].decode())
+    return next(place for place in range(len(told)) if told[place:place + 9] == row(STRANGE))

@@ -27,6 +27,8 @@ NEVER = re.compile(r"\b(type|typing|typing_extensions|enum|Enum|IntEnum|StrEnum|
 NEVER_NAMES = set("""register mro elements open input version_info with_traceback add_note attrgetter breakpoint
     builtins compile copyright credits delattr dir eval exec exit gc getattr globals hasattr help id importlib license
     locals methodcaller os quit setattr super type vars sys format format_map chr print""".split())
+WALKED = ("zip", "enumerate", "reversed", "range", "items", "keys", "values")
+WALKERS = ("list", "tuple", "dict", "sorted", "sum", "any", "all", "enumerate", "zip")
 TWO_UNDERSCORES = ("__init__", "__eq__", "__repr__", "__str__", "__len__", "__all__", "__version__")
 
 
@@ -43,6 +45,11 @@ def bound_names(tree):
             yield node.attr, node.lineno
         elif isinstance(node, ast.ExceptHandler) and node.name:
             yield node.name, node.lineno
+
+
+def called_name(node):
+    """The name by which something is called, of a method the method's."""
+    return getattr(node.func, "id", getattr(node.func, "attr", None))
 
 
 class Language(unittest.TestCase):
@@ -153,6 +160,48 @@ class Language(unittest.TestCase):
                 self.assertEqual(len(node.generators), 1, place)
             if isinstance(node, ast.Compare) and any(isinstance(op, (ast.Is, ast.IsNot)) for op in node.ops):
                 self.assertIn(ast.unparse(node.comparators[0]), ("None", "True", "False"), place)
+
+    def test_what_is_walked_is_walked_at_once(self):
+        for file, tree in self.trees.items():
+            walked = []
+            for node in ast.walk(tree):
+                if isinstance(node, (ast.For, ast.comprehension)):
+                    walked.append(node.iter)
+                elif isinstance(node, ast.Call) and isinstance(node.func, ast.Name) and node.args:
+                    if node.func.id in WALKERS or (node.func.id in ("min", "max") and len(node.args) == 1):
+                        walked.append(node.args[0])
+                elif isinstance(node, ast.Call) and called_name(node) == "join":
+                    if isinstance(node.func.value, ast.Constant):
+                        walked.append(node.args[0])
+            for node in ast.walk(tree):
+                if isinstance(node, ast.Call) and called_name(node) in WALKED:
+                    self.assertIn(node, walked, f"{file.name}:{node.lineno}")
+
+    def test_powers_are_written(self):
+        for place, node in self.each(ast.BinOp):
+            if isinstance(node.op, ast.Pow):
+                self.assertIsInstance(node.right, ast.Constant, place)
+                self.assertTrue(0 <= node.right.value <= 64, place)
+
+    def test_sets_are_not_kept(self):
+        for file, tree in self.trees.items():
+            inner = [arg for node in ast.walk(tree) if isinstance(node, ast.Call) and called_name(node) in ("sorted", "len")
+                     for arg in ast.walk(node.args[0])]
+            for node in ast.walk(tree):
+                if isinstance(node, ast.Call) and called_name(node) in ("set", "frozenset"):
+                    self.assertIn(node, inner, f"{file.name}:{node.lineno}")
+
+    def test_locals_are_not_called_like_imports_or_classes(self):
+        for file, tree in self.trees.items():
+            taken = {alias.asname or alias.name for node in tree.body if isinstance(node, ast.ImportFrom)
+                     for alias in node.names}
+            taken |= {node.name for node in tree.body if isinstance(node, ast.ClassDef)}
+            for outer in ast.walk(tree):
+                if isinstance(outer, ast.FunctionDef):
+                    for node in ast.walk(outer):
+                        name = node.arg if isinstance(node, ast.arg) else getattr(node, "id", None)
+                        if isinstance(node, ast.arg) or (isinstance(node, ast.Name) and isinstance(node.ctx, ast.Store)):
+                            self.assertNotIn(name, taken, f"{file.name}:{node.lineno}")
 
     def test_names(self):
         for file, tree in self.trees.items():
