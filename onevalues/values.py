@@ -9,9 +9,10 @@ from onevalues.fitting import FITS, hold_against
 from onevalues.parts import read_whole
 from onevalues.patches import ADD, PUT, Step, do_patch, do_step, read_patch
 from onevalues.paths import lead, read_path
+from onevalues.reader import HIGHEST_VARYING, Reader
 from onevalues.reckoning import is_operation, need_number, reckon
 from onevalues.refusals import Refusal, WrongBook
-from onevalues.rows import number_row
+from onevalues.rows import number_row, vary_row
 from onevalues.text_maker import make_text
 from onevalues.text_reader import read_text
 from onevalues.trees import make_tree, tree_row
@@ -167,3 +168,19 @@ def fits(v, f):
     except WrongBook:
         return [-5]
     return [1] if told == FITS else [0, told]
+
+
+def vary(n):
+    if n < 0 or n > HIGHEST_VARYING:
+        return [-1]
+    return [0] + vary_row(n)
+
+
+# Bytes behind the varying number are not looked at.
+def unvary(b):
+    reader = Reader(b)
+    try:
+        amount = reader.read_varying()
+    except Fault:
+        return [-6]
+    return [0, amount, reader.place]

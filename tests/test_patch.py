@@ -1,11 +1,14 @@
 import unittest
+from unittest import mock
 
 import making
 from making import (ATOMS, NO, NO_PATHS, NO_VALUES, YES, add_step, number, pair, path, put_step, record, row, some_list,
-                    take_step, text, vary, within)
+                    some_bytes, take_step, text, vary, within)
+from onevalues import changes
 from onevalues.values import patch
 
 LONGEST_VALUE = 16777216
+LONG = some_bytes([7] * 500)
 
 
 # No steps of a patch, each for another reason.
@@ -222,6 +225,33 @@ class NoValue(PatchCase):
         self.assertEqual(patch(value, some_list(*steps)), [-9, 1])
         steps = [put_step([1], fits), put_step([1], NO), put_step([2], NO), take_step(2), add_step([0], fits)]
         self.assertEqual(patch(value, some_list(*steps)), [-9, 4])
+
+    def test_what_was_taken_leaves_room(self):
+        # As if a value's bytes were at most 1,000: what is counted is the same.
+        with mock.patch.object(changes, "LONGEST_VALUE", 1000):
+            for value, second, named in ((some_list(LONG), 1, 0), (record(pair("a" * 200, LONG)), "z", 2)):
+                left = 1000 - len(value) - named
+                fits, longer = [some_bytes([0] * (many - 3)) for many in (left, left + 1)]
+                self.assertEqual(len(fits), left)
+                steps = [put_step([second], fits), take_step(second), put_step([second], fits), take_step(second),
+                         put_step([second], NO), put_step([second], fits)]
+                self.assertEqual(len(patch(value, some_list(*steps))), 1 + 1000)
+                self.check([-9, 4], patch, value, some_list(*steps[:4], put_step([second], longer)))
+                self.check([-9, 5], patch, value, some_list(*steps[:5], put_step([second], longer)))
+
+    def test_room_for_the_count(self):
+        # The count of 128 members takes a byte more than that of 127.
+        with mock.patch.object(changes, "LONGEST_VALUE", 1000):
+            for many in (126, 127, 128):
+                value = some_list(*[NO] * many)
+                left = 1000 - len(some_list(*[NO] * (many + 1))) + 1
+                fits, longer = [some_bytes([0] * (length - 3)) for length in (left, left + 1)]
+                for step in (put_step, add_step):
+                    self.assertEqual(len(patch(value, some_list(step([many], fits)))), 1 + 1000)
+                    self.check([-9, 0], patch, value, some_list(step([many], longer)))
+                    again = [step([many], fits), take_step(0), add_step([0], NO), take_step(many)]
+                    self.assertEqual(len(patch(value, some_list(*again, step([many], fits)))), 1 + 1000)
+                    self.check([-9, 4], patch, value, some_list(*again, step([many], longer)))
 
 
 class Refused(PatchCase):

@@ -121,6 +121,12 @@ class NewNames(PutCase):
     def test_deep_within(self):
         self.came(some_list(NO, record(pair("a", record(pair("x", NO), pair("y", NEW))), pair("b", YES))),
                   some_list(NO, record(pair("a", record(pair("x", NO))), pair("b", YES))), [1, "a", "y"])
+        names = ("b", "d", "f")
+        for before, name in enumerate(("a", "c", "e", "g")):
+            pairs = [pair(other, NO) for other in names]
+            more = [*pairs[:before], pair(name, NEW), *pairs[before:]]
+            self.came(record(pair("a1", NO), pair("a2", NO), pair("x", record(*more))),
+                      record(pair("a1", NO), pair("a2", NO), pair("x", record(*pairs))), ["x", name])
 
     def test_names_of_many_bytes(self):
         for length in (1, 127, 128, 254, 255):
